@@ -1,5 +1,7 @@
 """Books and other values that several tests use, and checks of errors."""
 
+from pieceswindow.errors import InvalidPaper, InvalidText, NotUsable
+
 SENDER, ROAD, HEARER = (2, 3, 2, 1, 4, None), (1, 3), (4, 1, 2, 'eldest')
 BOOK = (SENDER, ROAD, HEARER)
 LONGER, SAFE = (SENDER, ROAD, (5, 1, 3, 'eldest')), (SENDER, ROAD, (4, 1, 3, 'eldest'))
@@ -36,7 +38,7 @@ def book_with(part, k, value, book=BOOK):
 class ErrorChecks:
     """Checks that a call raises just one error with just these fields."""
 
-    def raises(self, error, fields, call, *rest, **more):
+    def raises(self, error, fields, call, /, *rest, **more):
         with self.assertRaises(error) as held:
             call(*rest, **more)
         self.assertIs(type(held.exception), error)
@@ -46,14 +48,11 @@ class ErrorChecks:
             self.assertIs(type(found[name]), type(fields[name]))
         return held.exception
 
-    def not_usable(self, word, call, *rest, **more):
-        from pieceswindow.errors import NotUsable
+    def not_usable(self, word, call, /, *rest, **more):
         return self.raises(NotUsable, {'word': word, 'at': -1}, call, *rest, **more)
 
-    def invalid_paper(self, word, at, call, *rest, **more):
-        from pieceswindow.errors import InvalidPaper
+    def invalid_paper(self, word, at, call, /, *rest, **more):
         return self.raises(InvalidPaper, {'word': word, 'at': at}, call, *rest, **more)
 
-    def invalid_text(self, line, field, call, *rest, **more):
-        from pieceswindow.errors import InvalidText
+    def invalid_text(self, line, field, call, /, *rest, **more):
         return self.raises(InvalidText, {'line': line, 'field': field}, call, *rest, **more)

@@ -133,8 +133,8 @@ class TestAlike(ErrorChecks, unittest.TestCase):
                     self.assertNotEqual(ahead, harms_that_can((other[0], other[1], hearer)), (one, other, hearer))
 
     def test_greater_books_as_stated(self):
-        books = [book(a=a, numbers=numbers, late=late, pause=pause)
-                 for a, numbers, late, pause in product((7, 8, 20, 59, 60), (1, 3, 60), (0, 9, 10, 400), (None, 60, 65))]
+        some = product((7, 8, 20, 59, 60), (1, 3, 60), (0, 9, 10, 400), (None, 60, 65))
+        books = [book(a=a, numbers=numbers, late=late, pause=pause) for a, numbers, late, pause in some]
         parted = 0
         for one, other in product(books, books):
             self.assertIs(same_roads(one, other), told_same(one, other), (one, other))

@@ -132,7 +132,8 @@ class TestForms(ErrorChecks, unittest.TestCase):
                 self.assertEqual(found, told_crowd(a, late, wait, drop))
 
     def test_forms_by_their_definition(self):
-        some = product((1, 2, 3), (1, 2), (1, 2), (1, 2, 4), (None, 3, 4), (0, 3, 4), (0, 3, 5), (0, 2, 3), (1, 2), DROPS)
+        some = product((1, 2, 3), (1, 2), (1, 2), (1, 2, 4), (None, 3, 4),
+                       (0, 3, 4), (0, 3, 5), (0, 2, 3), (1, 2), DROPS)
         for a, n, copies, numbers, pause, late, wait, memory, room, drop in some:
             one = book(a=a, n=n, copies=copies, numbers=numbers, pause=pause, late=late, wait=wait, memory=memory,
                        room=room, drop=drop)
@@ -177,7 +178,8 @@ class TestForms(ErrorChecks, unittest.TestCase):
                 self.assertLessEqual(set(harms), set(others))
 
     def some_books(self):
-        some = product((1, 3), (1, 2), (1, 2), (1, 3), (None, 4), (0, 3), (0, 3, 4), (0, 3), (1, 2), ('eldest', 'newest'))
+        some = product((1, 3), (1, 2), (1, 2), (1, 3), (None, 4),
+                       (0, 3), (0, 3, 4), (0, 3), (1, 2), ('eldest', 'newest'))
         for a, n, copies, numbers, pause, late, wait, memory, room, drop in some:
             yield book(a=a, n=n, copies=copies, numbers=numbers, pause=pause, late=late, wait=wait, memory=memory,
                        room=room, drop=drop)

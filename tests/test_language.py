@@ -51,8 +51,9 @@ class TestLanguage(unittest.TestCase):
             imported = [each.name for node in tree.body if isinstance(node, ast.ImportFrom) for each in node.names]
             self.assertEqual(len(imported), len(set(imported)), name)
             used = {node.id for node in ast.walk(tree) if isinstance(node, ast.Name)}
-            bound = {node.id for node in ast.walk(tree) if isinstance(node, ast.Name) and isinstance(node.ctx, ast.Store)}
-            bound |= {node.arg for node in ast.walk(tree) if isinstance(node, ast.arg)}
+            bound = {node.arg for node in ast.walk(tree) if isinstance(node, ast.arg)}
+            bound |= {node.id for node in ast.walk(tree)
+                      if isinstance(node, ast.Name) and isinstance(node.ctx, ast.Store)}
             self.assertEqual([each for each in imported if each not in used or each in bound], [], name)
 
     def test_builtins(self):
