@@ -1,6 +1,6 @@
 """Books and other values that several tests use, and checks of errors."""
 
-from pieceswindow.errors import InvalidPaper, InvalidText, NotUsable
+from pieceswindow.errors import InvalidEvent, InvalidPaper, InvalidRow, InvalidText, NothingToUndo, NotUsable
 
 SENDER, ROAD, HEARER = (2, 3, 2, 1, 4, None), (1, 3), (4, 1, 2, 'eldest')
 BOOK = (SENDER, ROAD, HEARER)
@@ -56,3 +56,12 @@ class ErrorChecks:
 
     def invalid_text(self, line, field, call, /, *rest, **more):
         return self.raises(InvalidText, {'line': line, 'field': field}, call, *rest, **more)
+
+    def invalid_event(self, event, reason, call, /, *rest, **more):
+        return self.raises(InvalidEvent, {'event': event, 'reason': reason}, call, *rest, **more)
+
+    def nothing_to_undo(self, call, /, *rest, **more):
+        return self.raises(NothingToUndo, {'steps': 0}, call, *rest, **more)
+
+    def invalid_row(self, row, call, /, *rest, **more):
+        return self.raises(InvalidRow, {'row': row}, call, *rest, **more)

@@ -20,6 +20,10 @@ FUNCTIONS = {
     'forms': {'crowd_of': ['book'], 'can_be': ['book', 'harm'], 'harms_that_can': ['book'], 'causes_of': ['book'],
               'is_harmless': ['book']},
     'alike': {'are_alike': ['book', 'other'], 'parting_hearer': ['book', 'other'], 'same_roads': ['book', 'other']},
+    'drops': {'room_by': ['book', 'drop'], 'drops_order': ['book']},
+    'liveevents': {'is_event': ['thing']},
+    'replaying': {'is_log': ['thing'], 'replayed': ['log']},
+    'eventreadings': {'read_event': ['text'], 'read_log': ['lines']},
 }
 
 # Its classes: the parameters of the class, and those of its plain methods.
@@ -29,6 +33,25 @@ CLASSES = {
             'but': ['self', 'more'], 'read': ['text'],
             'of': ['a', 'late', 'b', 'n', 'copies', 'numbers', 'pause', 'd', 'wait', 'memory', 'room', 'drop']}),
         'Plain': (['a', 'late', 'n'], {})},
+    'live': {
+        'LiveHearer': (['book'], {
+            'begin': ['self', 'moment', 'number'], 'hear': ['self', 'moment', 'text', 'part'],
+            'set_hearer': ['self', 'wait', 'memory', 'room', 'drop'], 'go': ['self', 'event'],
+            'barred': ['self', 'event'], 'tried': ['self', 'events'], 'undo': ['self'],
+            'do_all': ['self', 'events', 'keep'], 'tally': ['self'], 'next_begins': ['self'],
+            'heard_between': ['self', 'text'], 'table': ['self'], 'log': ['self']})},
+    'desk': {'Desk': (['book'], {'say': ['self', 'row'], 'tally': ['self']})},
+}
+
+# Its properties, and what is written with signs; all stand in the class itself.
+SIGNS = {
+    'bookclasses': {
+        'Book': (['sender', 'road', 'hearer', 'form', 'reach'],
+                 ['__getitem__', '__contains__', '__call__', '__str__', '__eq__', '__mul__', '__mod__', '__or__']),
+        'Plain': (['given'], [])},
+    'live': {
+        'LiveHearer': (['book_now', 'run_now', 'open_now', 'remembered_now', 'showings_now', 'missed_now', 'harms_now'],
+                       ['__getitem__', '__contains__', '__len__', '__iter__', '__eq__', '__str__', '__iadd__'])},
 }
 
 
@@ -52,13 +75,33 @@ class TestInterface(unittest.TestCase):
                 self.assertEqual(one.__module__, 'pieceswindow.' + module)
                 self.assertEqual(list(inspect.signature(one).parameters), parameters, name)
                 for method, told in methods.items():
+                    self.assertIn(method, vars(one))
                     self.assertEqual(list(inspect.signature(getattr(one, method)).parameters), told, method)
+
+    def test_properties_and_signs_are_defined_in_the_class_itself(self):
+        for module, classes in SIGNS.items():
+            found = importlib.import_module('pieceswindow.' + module)
+            for name, (properties, signs) in classes.items():
+                own = vars(getattr(found, name))
+                for each in properties:
+                    self.assertIsInstance(own[each], property)
+                for each in signs:
+                    self.assertTrue(inspect.isfunction(own[each]), each)
+
+    def test_class_value(self):
+        own = vars(importlib.import_module('pieceswindow.live').LiveHearer)
+        self.assertEqual((own['MOST'], type(own['MOST'])), (40, int))
 
     def test_parameters_by_name_only(self):
         of = inspect.signature(importlib.import_module('pieceswindow.bookclasses').Book.of).parameters
         only = {name: each.default for name, each in of.items() if each.kind == inspect.Parameter.KEYWORD_ONLY}
         self.assertEqual(only, {'b': None, 'n': 2, 'copies': 1, 'numbers': 1, 'pause': None, 'd': 0, 'wait': 0,
                                 'memory': 0, 'room': 1, 'drop': 'eldest'})
+        do_all = inspect.signature(importlib.import_module('pieceswindow.live').LiveHearer.do_all).parameters
+        self.assertEqual(do_all['events'].kind, inspect.Parameter.VAR_POSITIONAL)
+        self.assertEqual((do_all['keep'].kind, do_all['keep'].default), (inspect.Parameter.KEYWORD_ONLY, False))
+        tried = inspect.signature(importlib.import_module('pieceswindow.live').LiveHearer.tried).parameters
+        self.assertEqual(tried['events'].kind, inspect.Parameter.VAR_POSITIONAL)
 
 
 if __name__ == '__main__':

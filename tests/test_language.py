@@ -7,7 +7,7 @@ import unittest
 
 FOLDER = os.path.join(os.path.dirname(os.path.dirname(os.path.abspath(__file__))), 'pieceswindow')
 MAY_CALL = set('''len range enumerate zip min max sum abs sorted reversed int str bool bytes list tuple dict set
-    isinstance ord repr any all divmod pow ValueError TypeError KeyError IndexError LookupError NotImplemented
+    isinstance ord repr any all divmod pow iter ValueError TypeError KeyError IndexError LookupError NotImplemented
     property staticmethod classmethod super'''.split())
 
 
