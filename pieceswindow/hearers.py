@@ -74,6 +74,18 @@ def fate_of(held, book, number, arrival):
     return opened_with(left, book, forgotten, dropped, number, arrival)
 
 
+def fates_through(book, run):
+    """The list of the fates of all arrivals of a run."""
+    begins, arrivals = run
+    held = nothing_held()
+    fates = []
+    for arrival in arrivals:
+        fate = fate_of(held, book, begins[arrival[1]][1], arrival)
+        held = fate.held
+        fates.append(fate)
+    return fates
+
+
 def kept_at(held, book, moment):
     """What is still held when an arrival comes at this moment, that one counted."""
     opens = tuple([each for each in held.opens if moment - each.opened <= wait_of(book)])

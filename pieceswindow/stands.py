@@ -1,6 +1,6 @@
 """Where a live hearer stands behind its events, and how it goes on by one more. A stand never changes."""
 
-from pieceswindow.beginnings import has_number, is_stop, keeps_pace
+from pieceswindow.beginnings import has_number
 from pieceswindow.bookparts import copies_of, drop_of, numbers_of, parts_of, room_of, span_of
 from pieceswindow.hearers import fate_of, narrowed, nothing_held
 
@@ -76,10 +76,7 @@ def reason_against_begin(stand, event):
     if stand.begins == ():
         return None
     last, last_number = stand.begins[-1]
-    gap = moment - last
-    if not keeps_pace(book, gap) and not is_stop(book, gap):
-        return "pace"
-    return None if has_number(book, last_number, gap, number) else "pace"
+    return None if has_number(book, last_number, moment - last, number) else "pace"
 
 
 def reason_against_hear(stand, event):

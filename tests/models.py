@@ -26,7 +26,7 @@ class Model:
         self.sender, self.road, self.hearer = book
         self.begins, self.arrivals, self.answers, self.showings = [], [], [], []
         self.opened, self.remembered = [], {}
-        # What each arrival did, for the causes: (text, number, word, what was forgotten, dropped, hearing it).
+        # What each arrival did, for the causes; open texts there are the sets of the texts of their parts.
         self.deeds = []
         for event in events:
             apply = {'begin': self.begin, 'hear': self.hear, 'hearer': self.change}[event[0]]
@@ -115,6 +115,23 @@ class Model:
         harms |= {'twice' for _, many in self.shown() if many > 1}
         return tuple(sorted(harms))
 
+    def causes(self, text):
+        """The causes of a missed text by [6]."""
+        causes = set()
+        for deed in self.deeds:
+            own, ahead = deed['text'] == text, deed['ahead'] or set()
+            if own and deed['word'] == 'swallowed':
+                causes.add('swallowed')
+            if any(text in texts for texts in deed['forgotten']):
+                causes.add('late')
+            if text in (deed['dropped'] or set()) or (own and deed['word'] == 'refused'):
+                causes.add('crowded')
+            if own and deed['word'] in ('comes', 'again') and ahead - {text}:
+                causes.add('joined')
+            if not own and deed['word'] == 'comes' and text in ahead:
+                causes.add('joined')
+        return tuple(sorted(causes))
+
     def copies(self, text):
         return tuple(sum(a[1:] == (text, part) for a in self.arrivals) for part in range(self.sender[2]))
 
@@ -145,3 +162,36 @@ class Model:
                 return 'order'
             return 'copy' if self.copies(text)[part] >= copies else None
         return 'same' if event[1:] == self.hearer else None
+
+
+def any_book(draws):
+    """A book of small numbers."""
+    a = draws.between(1, 3)
+    pause = draws.one((None, None, a + draws.below(6)))
+    sender = (a, a + draws.below(3), draws.one((1, 2, 2, 2, 3)), draws.between(1, 3), draws.between(1, 5), pause)
+    hearer = (draws.below(8), draws.below(6), draws.between(1, 3), draws.one(('eldest', 'newest', 'slowest')))
+    return (sender, (draws.below(3), draws.below(8)), hearer)
+
+
+def any_run(draws, book, most=8, lost=4):
+    """A run of the book; of each part about one copy in lost does not arrive."""
+    (a, b, n, copies, numbers, pause), (d, late), _ = book
+    begins, arrivals = [], []
+    for _ in range(draws.below(most + 1)):
+        if not begins:
+            begins.append((draws.between(-9, 9), draws.below(numbers)))
+        elif pause is not None and not draws.below(3):
+            begins.append((begins[-1][0] + pause + draws.below(3), 0))
+        else:
+            begins.append((begins[-1][0] + draws.between(a, b), (begins[-1][1] + 1) % numbers))
+    for text, (moment, _) in enumerate(begins):
+        for part in range(n):
+            for _ in range(copies):
+                if draws.below(lost):
+                    arrivals.append((moment + d + draws.between(0, late), draws.below(99), text, part))
+    return (tuple(begins), tuple((t, text, part) for t, _, text, part in sorted(arrivals)))
+
+
+def model_of(book, run):
+    """The model of a hearer behind a whole run."""
+    return Model(book, [('begin',) + each for each in run[0]] + [('hear',) + each for each in run[1]])

@@ -18,8 +18,9 @@ NO_ROWS = (
     'bars undo', 'bars log', 'bars begin 0', 'bars begin 0 0 0', 'bars begin x 0', 'bars bars begin 0 0', 'bars x',
     'bars begin 0 0\nbegin 0 0', 'bars\nbegin 0 0', 'bars hearer', 'bars ' + TEXT, 'begin', 'begin 0', 'begin 0 0 ',
     'begin  0 0', 'begin 0 0\n', '\nbegin 0 0', ' begin 0 0', 'begin 0 -1', 'begin -0 0', 'begin 00 0', 'begin 0 00',
-    'begin 0 0 0', 'begin 0 ' + '1' * 61, 'hear 0 0', 'hear 0 0 0 0', 'hear 0 0 -1', 'hear x 0 0', 'hearer 4 1 0 eldest',
-    'hearer 4 1 2', 'hearer 4 1 2 late', 'hearer 4 1 2 eldest ', 'hearer 4 1 2 eldest\n', 'hearer 0 0 0 newest',
+    'begin 0 0 0', 'begin 0 ' + '1' * 61, 'hear 0 0', 'hear 0 0 0 0', 'hear 0 0 -1', 'hear x 0 0',
+    'hearer 4 1 0 eldest', 'hearer 4 1 2', 'hearer 4 1 2 late', 'hearer 4 1 2 eldest ', 'hearer 4 1 2 eldest\n',
+    'hearer 0 0 0 newest',
     TEXT + '\n', '\n' + TEXT, TEXT + ' ', ' ' + TEXT, TEXT + '\nbegin 0 0', TEXT.replace('\n', ' '),
     TEXT.replace('\n', '\n\n'), TEXT.replace('road 1 3', 'road 1'), TEXT.replace('2 eldest', '0 eldest'),
     TEXT.replace('sender 2', 'sender 4'), TEXT.replace('-', '1'), '\n'.join(TEXT.split('\n')[:2]), 'sender 2 3 2 1 4 -',
@@ -69,8 +70,9 @@ class TestDesk(ErrorChecks, unittest.TestCase):
                   ('hear 4 0 0', 'again'), ('hear 4 1 0', 'opens drops 0'), ('hear 5 1 1', 'comes shows'),
                   ('hear 6 1 1', 'swallowed'), ('hear 6 0 1', 'opens'), ('hearer 9 1 1 newest', '-'),
                   ('hear 7 2 0', 'refused'), ('hearer 9 1 9 newest', '-'), ('hear 7 2 0', 'opens'),
-                  ('hearer 8 1 1 newest', '2'), ('log', 'begin -1 0 / begin 1 1 / begin 3 2 / hear 4 0 0 / hear 4 0 0 / '
-                   'hear 4 1 0 / hear 5 1 1 / hear 6 1 1 / hear 6 0 1 / hearer 9 1 1 newest / hear 7 2 0 / '
+                  ('hearer 8 1 1 newest', '2'), ('log', 'begin -1 0 / begin 1 1 / begin 3 2 / hear 4 0 0 / '
+                   'hear 4 0 0 / hear 4 1 0 / hear 5 1 1 / hear 6 1 1 / hear 6 0 1 / '
+                   'hearer 9 1 1 newest / hear 7 2 0 / '
                    'hearer 9 1 9 newest / hear 7 2 0 / hearer 8 1 1 newest'))
 
     def test_comes_alone(self):

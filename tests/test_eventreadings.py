@@ -177,7 +177,7 @@ class TestLogs(ErrorChecks, unittest.TestCase):
         self.invalid_text(4, 1, read_log, BOOK_LINES + LINES[:1] + ['hear', ''])
 
     def test_no_lists_of_strings(self):
-        lists = (BOOK_LINES + [None], BOOK_LINES + [LINES], [0], [True], [[]], [BOOK], [b'begin 0 0'], BOOK_LINES + [()])
+        lists = ([0], [True], [[]], [BOOK], [b'begin 0 0'], *[BOOK_LINES + [thing] for thing in (None, LINES, ())])
         for thing in NO_BOOKS + lists + (tuple(BOOK_LINES), '\n'.join(BOOK_LINES), 7, BOOK):
             if thing != []:
                 self.not_usable('lines', read_log, thing)

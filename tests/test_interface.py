@@ -24,6 +24,12 @@ FUNCTIONS = {
     'liveevents': {'is_event': ['thing']},
     'replaying': {'is_log': ['thing'], 'replayed': ['log']},
     'eventreadings': {'read_event': ['text'], 'read_log': ['lines']},
+    'eventtexts': {'event_line': ['event'], 'log_lines': ['log']},
+    'runchecker': {'lets_run': ['book', 'thing']},
+    'hearing': {name: ['book', 'run'] for name in ('showings_of', 'fates_of', 'open_of', 'remembered_of')},
+    'harms': {'harms_of': ['book', 'run'], 'missed_texts': ['book', 'run'], 'shown_texts': ['book', 'run'],
+              'causes_in': ['book', 'run', 'text']},
+    'harmchecker': {'lets_harm': ['book', 'harm', 'thing']},
 }
 
 # Its classes: the parameters of the class, and those of its plain methods.

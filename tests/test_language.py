@@ -79,6 +79,34 @@ class TestLanguage(unittest.TestCase):
             for word in ('(type)', 'Meta', 'metaclass='):
                 self.assertNotIn(word, text, name)
 
+    def test_no_two_files_import_from_each_other(self):
+        ahead = {name[:-3]: [node.module.partition('.')[2] for node in tree.body if isinstance(node, ast.ImportFrom)]
+                 for name, _, tree in sources()}
+        while ahead:
+            free = [name for name in ahead if not any(module in ahead for module in ahead[name])]
+            self.assertNotEqual(free, [], sorted(ahead))
+            ahead = {name: modules for name, modules in ahead.items() if name not in free}
+
+    def test_no_name_is_a_method_and_an_attribute(self):
+        methods, attributes = set(), set()
+        for _, _, tree in sources():
+            for node in ast.walk(tree):
+                if isinstance(node, ast.ClassDef):
+                    methods |= {each.name for each in node.body if isinstance(each, ast.FunctionDef)}
+                if isinstance(node, ast.Attribute) and isinstance(node.ctx, ast.Store):
+                    attributes.add(node.attr)
+        self.assertEqual(methods & attributes, set())
+        for name in methods | attributes:
+            if not name.startswith('__'):
+                self.assertFalse(any(hasattr(one, name) for one in (int, str, bytes, list, tuple, dict, set)), name)
+
+    def test_finally_only_assigns_names(self):
+        for name, _, tree in sources():
+            for node in ast.walk(tree):
+                for each in getattr(node, 'finalbody', []):
+                    self.assertIsInstance(each, ast.Assign, name)
+                    self.assertIsInstance(each.value, ast.Name, name)
+
 
 if __name__ == '__main__':
     unittest.main()

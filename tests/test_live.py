@@ -4,7 +4,7 @@ import unittest
 
 from pieceswindow.kinds import is_number
 from pieceswindow.live import LiveHearer
-from tests.models import Draws, Model
+from tests.models import Draws, Model, any_book
 from tests.samples import BOOK, NO_BOOKS, NO_INTEGERS, NO_NUMBERS, ErrorChecks, book_with
 
 
@@ -339,18 +339,11 @@ class TestWalks(LiveChecks, unittest.TestCase):
         rule = draws.one(('eldest', 'newest', 'slowest'))
         return ('hearer', draws.below(7), draws.below(5), draws.between(1, 3), rule)
 
-    def any_book(self, draws):
-        a = draws.between(1, 3)
-        pause = draws.one((None, a + draws.below(5)))
-        sender = (a, a + draws.below(3), draws.one((1, 2, 2, 2, 3)), draws.between(1, 3), draws.between(1, 5), pause)
-        hearer = (draws.below(8), draws.below(6), draws.between(1, 3), draws.one(('eldest', 'newest', 'slowest')))
-        return (sender, (draws.below(3), draws.below(9)), hearer)
-
     def test_walks(self):
         draws = Draws(1)
         words = {}
         for _ in range(600):
-            model = Model(self.any_book(draws))
+            model = Model(any_book(draws))
             live = LiveHearer(model.book)
             while len(model.events) < 40 and draws.below(60):
                 event = self.any_event(draws, model)
@@ -375,7 +368,7 @@ class TestWalks(LiveChecks, unittest.TestCase):
     def test_undo_goes_all_the_way_back(self):
         draws = Draws(2)
         for _ in range(30):
-            model = Model(self.any_book(draws))
+            model = Model(any_book(draws))
             live = LiveHearer(model.book)
             snapshots = []
             while len(live) < 30:
@@ -392,7 +385,7 @@ class TestWalks(LiveChecks, unittest.TestCase):
     def test_answers_of_events_tried_at_once(self):
         draws = Draws(3)
         for _ in range(30):
-            model = Model(self.any_book(draws))
+            model = Model(any_book(draws))
             for _ in range(100):
                 event = self.any_event(draws, model)
                 if model.reason(event) is None:
