@@ -195,3 +195,40 @@ def any_run(draws, book, most=8, lost=4):
 def model_of(book, run):
     """The model of a hearer behind a whole run."""
     return Model(book, [('begin',) + each for each in run[0]] + [('hear',) + each for each in run[1]])
+
+
+def all_begins(book, many):
+    """The beginnings of so many texts, from 0 on, in all ways; stops are as short as can be or by 1 longer."""
+    a, b, _, _, numbers, pause = book[0]
+    found = [((0, number),) for number in range(numbers)] if many else [()]
+    for _ in range(many - 1):
+        grown = []
+        for begins in found:
+            moment, number = begins[-1]
+            nexts = {(moment + gap, (number + 1) % numbers) for gap in range(a, b + 1)}
+            if pause is not None:
+                nexts |= {(moment + pause, 0), (moment + pause + 1, 0)}
+            grown.extend(begins + (each,) for each in sorted(nexts))
+        found = grown
+    return found
+
+
+def all_arrivals(book, begins, most):
+    """All tuples of at most so many arrivals behind these beginnings."""
+    (_, _, n, copies, _, _), (d, late) = book[:2]
+    possible = sorted((moment + d + behind, text, part) for text, (moment, _) in enumerate(begins)
+                      for part in range(n) for behind in range(late + 1))
+    level = [()]
+    yield ()
+    for _ in range(most):
+        level = [arrivals + (each,) for arrivals in level for each in possible
+                 if (not arrivals or arrivals[-1][0] <= each[0])
+                 and sum(other[1:] == each[1:] for other in arrivals) < copies]
+        yield from level
+
+
+def all_runs(book, texts, most):
+    """All runs of a book with so many texts and at most so many arrivals, the first text beginning at 0."""
+    for begins in all_begins(book, texts):
+        for arrivals in all_arrivals(book, begins, most):
+            yield (begins, arrivals)

@@ -30,6 +30,12 @@ FUNCTIONS = {
     'harms': {'harms_of': ['book', 'run'], 'missed_texts': ['book', 'run'], 'shown_texts': ['book', 'run'],
               'causes_in': ['book', 'run', 'text']},
     'harmchecker': {'lets_harm': ['book', 'harm', 'thing']},
+    'harmruns': {'harm_run': ['book', 'harm'], 'cause_run': ['book', 'cause']},
+    'harmpapers': {'harm_paper': ['book', 'harm']},
+    'leasts': {name: ['book'] for name in (
+        'least_numbers', 'least_wait', 'greatest_wait', 'least_memory', 'greatest_memory', 'least_room', 'least_pause')},
+    'meanings': {'meanings_of': ['sender', 'road', 'number', 'gap', 'late_number'],
+                 'sure_numbers': ['sender', 'road', 'gap']},
 }
 
 # Its classes: the parameters of the class, and those of its plain methods.
@@ -47,6 +53,9 @@ CLASSES = {
             'do_all': ['self', 'events', 'keep'], 'tally': ['self'], 'next_begins': ['self'],
             'heard_between': ['self', 'text'], 'table': ['self'], 'log': ['self']})},
     'desk': {'Desk': (['book'], {'say': ['self', 'row'], 'tally': ['self']})},
+    'outlooks': {
+        'Outlook': (['book'], {'papers': ['self'], 'with_hearer': ['self', 'wait', 'memory', 'room', 'drop'],
+                               'lies_in': ['self', 'other']})},
 }
 
 # Its properties, and what is written with signs; all stand in the class itself.
@@ -58,6 +67,9 @@ SIGNS = {
     'live': {
         'LiveHearer': (['book_now', 'run_now', 'open_now', 'remembered_now', 'showings_now', 'missed_now', 'harms_now'],
                        ['__getitem__', '__contains__', '__len__', '__iter__', '__eq__', '__str__', '__iadd__'])},
+    'outlooks': {
+        'Outlook': (['book_now', 'harms_now', 'causes_now', 'crowd_now'],
+                    ['__getitem__', '__contains__', '__len__', '__iter__', '__bool__', '__str__', '__eq__'])},
 }
 
 
@@ -108,6 +120,9 @@ class TestInterface(unittest.TestCase):
         self.assertEqual((do_all['keep'].kind, do_all['keep'].default), (inspect.Parameter.KEYWORD_ONLY, False))
         tried = inspect.signature(importlib.import_module('pieceswindow.live').LiveHearer.tried).parameters
         self.assertEqual(tried['events'].kind, inspect.Parameter.VAR_POSITIONAL)
+        with_hearer = inspect.signature(importlib.import_module('pieceswindow.outlooks').Outlook.with_hearer).parameters
+        only = {name: each.default for name, each in with_hearer.items() if each.kind == inspect.Parameter.KEYWORD_ONLY}
+        self.assertEqual(only, {'wait': None, 'memory': None, 'room': None, 'drop': None})
 
 
 if __name__ == '__main__':
