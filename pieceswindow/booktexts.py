@@ -10,7 +10,7 @@ def book_text(book):
 
 def line_text(word, values):
     """A word and its values, with single spaces between."""
-    return " ".join([word] + [value_text(value) for value in values])
+    return " ".join([word, *[value_text(value) for value in values]])
 
 
 def value_text(value):
@@ -28,6 +28,7 @@ def number_text(number):
     chunk = 10 ** 60
     text = ""
     while number >= chunk:
-        text = str(number % chunk).zfill(60) + text
+        digits = str(number % chunk).zfill(60)
+        text = f"{digits}{text}"
         number = number // chunk
-    return str(number) + text
+    return f"{number}{text}"

@@ -35,5 +35,5 @@ def worth_text(value):
 def integer_text(value):
     """The digits of an integer, with a minus ahead if it is less than 0."""
     if value < 0:
-        return "-" + number_text(-value)
+        return f"-{number_text(-value)}"
     return number_text(value)

@@ -1,18 +1,18 @@
 """What a number that is heard behind another one can mean."""
 
-from pieceswindow.errors import NotUsable
+from pieceswindow.demands import need
 from pieceswindow.kinds import is_number, is_road, is_sender
 
 
 def meanings_of(sender, road, number, gap, late_number):
     """The set of the k such that an arrival with late_number, gap behind one with number, can be of the text k
     behind that one's."""
-    check_sender(sender)
-    check_road(road)
+    need(is_stopless(sender), "sender")
+    need(is_road(road), "road")
+    need(is_number_of(sender, number), "number")
+    need(is_number(gap), "gap")
+    need(is_number_of(sender, late_number), "late_number")
     numbers = sender[4]
-    check_number("number", number, numbers)
-    check_gap(gap)
-    check_number("late_number", late_number, numbers)
     least, greatest = places_behind(sender, road, gap)
     first = least + (late_number - number - least) % numbers
     return tuple([k for k in range(first, greatest + 1, numbers) if k != 0 or not is_once(sender)])
@@ -20,34 +20,20 @@ def meanings_of(sender, road, number, gap, late_number):
 
 def sure_numbers(sender, road, gap):
     """The least number of numbers with which no number has two meanings up to this gap."""
-    check_sender(sender)
-    check_road(road)
-    check_gap(gap)
+    need(is_stopless(sender), "sender")
+    need(is_road(road), "road")
+    need(is_number(gap), "gap")
     return max([numbers_apart(sender, road, behind) for behind in range(gap + 1)])
 
 
-def check_sender(sender):
-    """NotUsable for any value that is no sender without stops."""
-    if not is_sender(sender) or sender[5] is not None:
-        raise NotUsable("sender", -1)
+def is_stopless(thing):
+    """Whether any value is a sender without stops."""
+    return is_sender(thing) and thing[5] is None
 
 
-def check_road(road):
-    """NotUsable for any value that is no road."""
-    if not is_road(road):
-        raise NotUsable("road", -1)
-
-
-def check_number(word, value, numbers):
-    """NotUsable with the word for any value that is no number less than numbers."""
-    if not is_number(value) or value >= numbers:
-        raise NotUsable(word, -1)
-
-
-def check_gap(gap):
-    """NotUsable for any value that is no number."""
-    if not is_number(gap):
-        raise NotUsable("gap", -1)
+def is_number_of(sender, thing):
+    """Whether any value is a number that a text of the sender can have."""
+    return is_number(thing) and thing < sender[4]
 
 
 def is_once(sender):

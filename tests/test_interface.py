@@ -36,6 +36,12 @@ FUNCTIONS = {
         'least_numbers', 'least_wait', 'greatest_wait', 'least_memory', 'greatest_memory', 'least_room', 'least_pause')},
     'meanings': {'meanings_of': ['sender', 'road', 'number', 'gap', 'late_number'],
                  'sure_numbers': ['sender', 'road', 'gap']},
+    'runchanges': {'shifted': ['book', 'run', 'by'], 'without_arrival': ['book', 'run', 'k'],
+                   'joined_runs': ['book', 'run', 'late']},
+    'settings': {name: ['sender', 'road', 'room', 'drop'] for name in ('harmless_settings', 'narrowest')},
+    'tellback': {'spans': ['sender', 'road', 'heard']},
+    'spanpapers': {'span_paper': ['sender', 'road', 'heard']},
+    'spanchecker': {'lets_spans': ['sender', 'road', 'heard', 'thing']},
 }
 
 # Its classes: the parameters of the class, and those of its plain methods.
@@ -56,6 +62,9 @@ CLASSES = {
     'outlooks': {
         'Outlook': (['book'], {'papers': ['self'], 'with_hearer': ['self', 'wait', 'memory', 'room', 'drop'],
                                'lies_in': ['self', 'other']})},
+    'runclasses': {
+        'Run': (['book', 'begins', 'arrivals'], {'later': ['self', 'by'], 'then': ['self', 'late'],
+                                                 'of': ['book', 'run']})},
 }
 
 # Its properties, and what is written with signs; all stand in the class itself.
@@ -70,6 +79,9 @@ SIGNS = {
     'outlooks': {
         'Outlook': (['book_now', 'harms_now', 'causes_now', 'crowd_now'],
                     ['__getitem__', '__contains__', '__len__', '__iter__', '__bool__', '__str__', '__eq__'])},
+    'runclasses': {
+        'Run': (['book_now', 'begins_now', 'arrivals_now', 'run_now', 'showings_now', 'harms_now', 'missed_now'],
+                ['__getitem__', '__contains__', '__len__', '__bool__', '__eq__', '__add__', '__sub__'])},
 }
 
 
@@ -123,6 +135,17 @@ class TestInterface(unittest.TestCase):
         with_hearer = inspect.signature(importlib.import_module('pieceswindow.outlooks').Outlook.with_hearer).parameters
         only = {name: each.default for name, each in with_hearer.items() if each.kind == inspect.Parameter.KEYWORD_ONLY}
         self.assertEqual(only, {'wait': None, 'memory': None, 'room': None, 'drop': None})
+        settings = importlib.import_module('pieceswindow.settings')
+        for function in (settings.harmless_settings, settings.narrowest):
+            for name, each in inspect.signature(function).parameters.items():
+                self.assertEqual((each.kind == inspect.Parameter.KEYWORD_ONLY, each.default),
+                                 (name in ('room', 'drop'), inspect.Parameter.empty))
+
+    def test_static_and_class_methods(self):
+        book = vars(importlib.import_module('pieceswindow.bookclasses').Book)
+        self.assertEqual((type(book['read']), type(book['of'])), (classmethod, staticmethod))
+        run = vars(importlib.import_module('pieceswindow.runclasses').Run)
+        self.assertIs(type(run['of']), staticmethod)
 
 
 if __name__ == '__main__':
