@@ -15,9 +15,13 @@ def harm_paper(book, harm):
 
 
 def shutting_reason(book, way):
-    """The first reason that shuts this way, by which no harm can come."""
-    reasons = [(word, rows_for(book, word)) for word in SHUTTING[way]]
-    return [(word, rows) for word, rows in reasons if holds(book, way, word, rows)][0]
+    """The first reason that shuts this way, by which no harm can come; so one does."""
+    for word in SHUTTING[way]:
+        # The rows of a long road are many, and are not made if a reason ahead of them holds.
+        rows = rows_for(book, word)
+        if holds(book, way, word, rows):
+            return (word, rows)
+    return None
 
 
 def rows_for(book, word):

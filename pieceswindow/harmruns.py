@@ -15,8 +15,8 @@ def harm_run(book, harm):
         return run_of_two(book, parts[:1], parts[1:])
     if harm == "twice":
         return run_of_one(book, parts, parts)
-    runs = [run_alone(book, cause) for cause in causes_of(book)]
-    return min(runs, key=lambda run: len(run[1]))
+    causes = causes_of(book)
+    return run_alone(book, min(causes, key=lambda cause: arrivals_alone(book, cause)))
 
 
 def cause_run(book, cause):
@@ -24,6 +24,16 @@ def cause_run(book, cause):
     if not is_cause(cause):
         raise NotUsable("cause", -1)
     return run_alone(book, cause) if can_be_alone(book, cause) else None
+
+
+def arrivals_alone(book, cause):
+    """How many arrivals run_alone has."""
+    n = parts_of(book)
+    if cause == "late":
+        return n
+    if cause == "joined":
+        return n + 1
+    return n + room_of(book) if cause == "crowded" else 2 * n
 
 
 def run_alone(book, cause):

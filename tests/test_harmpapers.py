@@ -79,6 +79,13 @@ class TestHarmPapers(ErrorChecks, unittest.TestCase):
             self.check(((a, 60, 60, 60, numbers, None), (400, 400), (wait, 400, 60, drop)))
             self.check(((a, 60, 2, 1, numbers, 400), (0, 0), (wait, 0, 60, drop)))
 
+    def test_beyond_the_limits(self):
+        # No rows are counted where a text has one part, or there is room for all numbers.
+        one = ((1, 1, 1, 1, 10 ** 59, None), (0, 10 ** 50), (0, 0, 1, 'eldest'))
+        self.reasons(one, 'missed', 'apart', 'parts', 'parts', 'parts')
+        one = ((1, 1, 2, 1, 10 ** 59, None), (0, 10 ** 50), (10 ** 50, 0, 10 ** 59, 'newest'))
+        self.reasons(one, 'missed', 'apart', 'apart', 'kept', 'numbers')
+
     def test_runs_are_those_of_the_fewest_arrivals(self):
         # Any run with the harm would do; this one comes from harm_run.
         self.assertEqual(len(harm_paper(BOOK, 'missed')[1][1]), told_harm_size(BOOK, 'missed'))

@@ -60,7 +60,8 @@ class RunChecks(ErrorChecks):
 class TestHarmRuns(RunChecks, unittest.TestCase):
 
     def test_examples(self):
-        found = [len(harm_run(BOOK, 'missed')[1]), harm_run(BOOK, 'twice'), harms_of(LONGER, harm_run(LONGER, 'joined'))]
+        joining = harm_run(LONGER, 'joined')
+        found = [len(harm_run(BOOK, 'missed')[1]), harm_run(BOOK, 'twice'), harms_of(LONGER, joining)]
         self.assertEqual(found, [4, None, ('joined',)])
         found = [len(harm_run(LONGER, 'joined')[1]), len(cause_run(LONGER, 'joined')[1]), cause_run(LONGER, 'late')]
         self.assertEqual(found, [2, 3, None])
@@ -119,8 +120,9 @@ class TestHarmRuns(RunChecks, unittest.TestCase):
 
     def test_limits(self):
         for drop, wait, memory in product(DROPS, (0, 399, 400), (0, 399, 400)):
-            for a, n, numbers, room in ((1, 60, 60, 59), (60, 60, 60, 60), (6, 2, 60, 60), (7, 60, 60, 58), (1, 1, 60, 60),
-                                        (13, 2, 60, 60), (13, 2, 60, 61), (14, 3, 60, 57), (14, 3, 60, 56)):
+            for a, n, numbers, room in ((1, 60, 60, 59), (60, 60, 60, 60), (6, 2, 60, 60), (7, 60, 60, 58),
+                                        (1, 1, 60, 60), (13, 2, 60, 60), (13, 2, 60, 61), (14, 3, 60, 57),
+                                        (14, 3, 60, 56)):
                 for late, pause in ((400, None), (399, 400), (400, 400), (0, 400)):
                     self.check(((a, 60, n, 60, numbers, pause), (400, late), (wait, memory, room, drop)))
 
@@ -132,6 +134,31 @@ class TestHarmRuns(RunChecks, unittest.TestCase):
                 run = cause_run(one, cause)
                 self.shows(one, run, size)
                 self.assertEqual(alone_in(one, run), {cause})
+
+    def test_the_fewest_of_several_causes(self):
+        # Crowded with n + room arrivals or swallowed with 2 * n, then joined with n + 1, then late with n.
+        for n, drop in product((2, 3, 4), DROPS):
+            for room in range(1, 7):
+                one = book(a=1, n=n, numbers=20, late=3, wait=3, memory=17, room=room, drop=drop)
+                self.assertEqual(causes_of(one), ('crowded', 'swallowed'))
+                self.assertEqual(len(harm_run(one, 'missed')[1]), n + min(n, room))
+                self.check(one)
+                one = book(a=1, n=n, numbers=20, late=3, wait=17, memory=17, room=room, drop=drop)
+                self.assertEqual(causes_of(one), ('crowded', 'joined', 'swallowed'))
+                self.assertEqual(len(harm_run(one, 'missed')[1]), n + 1)
+                self.check(one)
+                one = book(a=1, n=n, numbers=3, late=3, wait=0, memory=17, room=min(room, 2), drop=drop)
+                self.assertEqual(causes_of(one), ('crowded', 'joined', 'late', 'swallowed'))
+                self.assertEqual(len(harm_run(one, 'missed')[1]), n)
+                self.check(one)
+
+    def test_only_the_run_that_is_asked_for(self):
+        # A text is late by itself; the other runs would need as many texts as there are numbers.
+        one = ((1, 1, 2, 1, 10 ** 50, None), (0, 10 ** 51), (10 ** 50, 10 ** 51, 3, 'eldest'))
+        self.shows(one, harm_run(one, 'missed'), 2)
+        self.assertEqual(harms_of(one, harm_run(one, 'missed')), ('missed',))
+        one = ((1, 1, 2, 1, 10 ** 50, None), (0, 10 ** 30), (10 ** 30, 10 ** 51, 3, 'newest'))
+        self.shows(one, cause_run(one, 'crowded'), 5)
 
     def test_pause_alone_brings_a_number_back(self):
         one = book(numbers=60, pause=5, wait=9, late=1, room=60)

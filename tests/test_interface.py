@@ -33,7 +33,8 @@ FUNCTIONS = {
     'harmruns': {'harm_run': ['book', 'harm'], 'cause_run': ['book', 'cause']},
     'harmpapers': {'harm_paper': ['book', 'harm']},
     'leasts': {name: ['book'] for name in (
-        'least_numbers', 'least_wait', 'greatest_wait', 'least_memory', 'greatest_memory', 'least_room', 'least_pause')},
+        'least_numbers', 'least_wait', 'greatest_wait', 'least_memory', 'greatest_memory', 'least_room',
+        'least_pause')},
     'meanings': {'meanings_of': ['sender', 'road', 'number', 'gap', 'late_number'],
                  'sure_numbers': ['sender', 'road', 'gap']},
     'runchanges': {'shifted': ['book', 'run', 'by'], 'without_arrival': ['book', 'run', 'k'],

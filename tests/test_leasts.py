@@ -45,7 +45,8 @@ class TestLeasts(unittest.TestCase):
             self.assertEqual(values, list(range(values[0], values[-1] + 1)))
 
     def test_examples(self):
-        self.assertEqual([least_room(BOOK), least_numbers(BOOK), least_numbers(GOOD), least_pause(GOOD)], [3, None, 4, 8])
+        found = [least_room(BOOK), least_numbers(BOOK), least_numbers(GOOD), least_pause(GOOD)]
+        self.assertEqual(found, [3, None, 4, 8])
         found = [least_wait(GOOD), greatest_wait(GOOD), least_memory(GOOD), greatest_memory(GOOD)]
         self.assertEqual(found, [3, 4, 0, 4])
 

@@ -42,7 +42,8 @@ class TestShifted(ErrorChecks, unittest.TestCase):
             self.assertEqual(lets_run(one, later), lets_run(one, run))
             self.assertEqual(fates_of(one, later), fates_of(one, run))
             self.assertEqual(harms_of(one, later), harms_of(one, run))
-            self.assertEqual(showings_of(one, later), tuple((t + by, m, texts) for t, m, texts in showings_of(one, run)))
+            shown = tuple((t + by, m, texts) for t, m, texts in showings_of(one, run))
+            self.assertEqual(showings_of(one, later), shown)
             self.assertEqual([causes_in(one, later, text) for text in missed_texts(one, later)],
                              [causes_in(one, run, text) for text in missed_texts(one, run)])
             self.assertEqual(shifted(one, later, -by), run)
@@ -139,7 +140,8 @@ class TestJoinedRuns(ErrorChecks, unittest.TestCase):
             for number in range(4):
                 late = (((gap, number),), ((gap + 1, 0, 0),))
                 if gap in (2, 3) and number == 2 or gap >= 5 and number == 0:
-                    self.assertEqual(joined_runs(one, (((0, 1),), ()), late), (((0, 1), (gap, number)), ((gap + 1, 1, 0),)))
+                    found = joined_runs(one, (((0, 1),), ()), late)
+                    self.assertEqual(found, (((0, 1), (gap, number)), ((gap + 1, 1, 0),)))
                 else:
                     self.not_usable('late', joined_runs, one, (((0, 1),), ()), late)
 
@@ -178,8 +180,9 @@ class TestJoinedRuns(ErrorChecks, unittest.TestCase):
         late = (((6, 2),), ((7, 0, 0), (8, 0, 1)))
         self.assertEqual(len(joined_runs(BOOK, RUN, late)[1]), 7)
         wrong = (list(late), late[0], (late,), late + ((),), (late[0], list(late[1])), (((6, True),), ()),
-                 (((6, 4),), ()), (((True, 2),), ()), (late[0], ((7, 0, 0), (7, 0, 0))), (late[0], ((8, 0, 0), (7, 0, 1))),
-                 (late[0], ((7, 1, 0),)), (late[0], ((7, 0, 2),)), (late[0], ((6, 0, 0),)), (late[0], ((11, 0, 0),)),
+                 (((6, 4),), ()), (((True, 2),), ()), (late[0], ((7, 0, 0), (7, 0, 0))),
+                 (late[0], ((8, 0, 0), (7, 0, 1))), (late[0], ((7, 1, 0),)), (late[0], ((7, 0, 2),)),
+                 (late[0], ((6, 0, 0),)), (late[0], ((11, 0, 0),)),
                  (((6, 2), (7, 3)), ()), (((6, 2), (8, 2)), ()))
         for thing in NO_BOOKS + wrong + (BOOK, LiveHearer(BOOK)):
             self.not_usable('late', joined_runs, BOOK, RUN, thing)

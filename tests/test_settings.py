@@ -118,7 +118,8 @@ class TestSettings(ErrorChecks, unittest.TestCase):
 
     def test_wrong_values(self):
         for call in (harmless_settings, narrowest):
-            for thing in NO_BOOKS + (ROAD, BOOK, list(SENDER), (2, 1, 2, 1, 4, None), (2, 3, 2, 1, 4, 1), LiveHearer(BOOK)):
+            for thing in NO_BOOKS + (ROAD, BOOK, list(SENDER), (2, 1, 2, 1, 4, None), (2, 3, 2, 1, 4, 1),
+                                     LiveHearer(BOOK)):
                 self.not_usable('sender', call, thing, ROAD, room=3, drop='eldest')
                 self.not_usable('sender', call, thing, None, room=0, drop='late')
             for thing in NO_BOOKS + (SENDER, list(ROAD), (1, True), (-1, 3), (1,), LiveHearer(BOOK)):

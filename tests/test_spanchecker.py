@@ -50,7 +50,8 @@ class SpanChecks(ErrorChecks):
 class TestShapes(SpanChecks, unittest.TestCase):
 
     def test_examples(self):
-        found = [lets_spans(SENDER, ROAD, HEARD, PAPER), lets_spans(SENDER, ROAD, HEARD, span_paper(SENDER, ROAD, HEARD)),
+        paper = span_paper(SENDER, ROAD, HEARD)
+        found = [lets_spans(SENDER, ROAD, HEARD, PAPER), lets_spans(SENDER, ROAD, HEARD, paper),
                  lets_spans(SENDER, ROAD, APART, ('shut', 0, 1))]
         self.assertEqual(found, [True, True, False])
         self.wrong('pace', 2, ('spans', ((1, 3, 0, 1), (3, 5, 0, 1), (7, 8, 2, 1))))

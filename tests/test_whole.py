@@ -132,7 +132,8 @@ class TestAllWays(unittest.TestCase):
             self.together(book, run)
 
     def test_runs_that_have_harms(self):
-        for book in (BOOK, LONGER, ((2, 3, 2, 2, 4, None), ROAD, HEARER), ((1, 2, 3, 2, 3, 2), (1, 3), (1, 2, 2, 'slowest'))):
+        for book in (BOOK, LONGER, ((2, 3, 2, 2, 4, None), ROAD, HEARER),
+                     ((1, 2, 3, 2, 3, 2), (1, 3), (1, 2, 2, 'slowest'))):
             for harm in harms_that_can(book):
                 self.together(book, harm_run(book, harm))
             for cause in causes_of(book):
@@ -282,7 +283,8 @@ class TestMultiplied(unittest.TestCase):
             run = any_run(draws, book, lost=9)
             other, later = times_book(book, e), times_run(run, e)
             self.assertEqual(lets_run(other, later), lets_run(book, run))
-            self.assertEqual((fates_of(other, later), harms_of(other, later)), (fates_of(book, run), harms_of(book, run)))
+            self.assertEqual(fates_of(other, later), fates_of(book, run))
+            self.assertEqual(harms_of(other, later), harms_of(book, run))
             self.assertEqual(shown_texts(other, later), shown_texts(book, run))
             missed = missed_texts(book, run)
             self.assertEqual(missed_texts(other, later), missed)
@@ -374,7 +376,8 @@ class TestGuarantees(unittest.TestCase):
             other = ((a, b + draws.below(9), *rest), (draws.below(9), late), hearer)
             self.assertEqual((harms_that_can(other), causes_of(other)), (harms_that_can(book), causes_of(book)))
             self.assertIs(same_roads(book, other), True)
-            for tell in (least_numbers, least_wait, greatest_wait, least_memory, greatest_memory, least_room, least_pause):
+            for tell in (least_numbers, least_wait, greatest_wait, least_memory, greatest_memory, least_room,
+                         least_pause):
                 self.assertEqual(tell(other), tell(book))
             for harm in harms_that_can(book):
                 self.assertEqual(len(harm_run(other, harm)[1]), len(harm_run(book, harm)[1]))
