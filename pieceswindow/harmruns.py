@@ -15,8 +15,8 @@ def harm_run(book, harm):
         return run_of_two(book, parts[:1], parts[1:])
     if harm == "twice":
         return run_of_one(book, parts, parts)
-    causes = causes_of(book)
-    return run_alone(book, min(causes, key=lambda cause: arrivals_alone(book, cause)))
+    fewest = min([(arrivals_alone(book, cause), cause) for cause in causes_of(book)])
+    return run_alone(book, fewest[1])
 
 
 def cause_run(book, cause):
